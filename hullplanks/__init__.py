@@ -1,0 +1,1 @@
+"""Planks of a hull: girths, marks and true lengths."""
