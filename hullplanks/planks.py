@@ -11,6 +11,9 @@ MAKE = 1
 GIRTH = 2
 MARK = 3
 RUN = 4
+WIDTH = 5
+PIECE = 6
+FLAT = 7
 
 NO_TABLE = -3
 NO_SUCH_PLANKS = -1
@@ -148,12 +151,30 @@ def mark_point(hull, i, k, m):
     return Point(hull.places[i], y, z, parts)
 
 
+def seam_points(hull, k, m):
+    """Mark m of k planks at each station in order."""
+    return [mark_point(hull, i, k, m) for i in range(len(hull.places))]
+
+
+def across(a, b):
+    """How far b lies outwards of a and above it; both times the parts of a and of b, so that they are whole."""
+    return (b.y * a.parts - a.y * b.parts, b.z * a.parts - a.z * b.parts)
+
+
 def length_between(a, b):
     parts = a.parts * b.parts
     along = (b.place - a.place) * parts
-    outwards = b.y * a.parts - a.y * b.parts
-    upwards = b.z * a.parts - a.z * b.parts
-    return nearest_root(along * along + outwards * outwards + upwards * upwards, parts)
+    way = across(a, b)
+    return nearest_root(along * along + way[0] * way[0] + way[1] * way[1], parts)
+
+
+def lies_flat(lower, upper, next_lower, next_upper):
+    """Whether a bay's four marks lie in one plane: two at a station, two at the next."""
+    # A plane meets two stations in lines of one direction, since stations stand side by side;
+    # so it is enough to ask whether the ways across the plank at both have one direction.
+    here = across(lower, upper)
+    there = across(next_lower, next_upper)
+    return here[0] * there[1] == here[1] * there[0]
 
 
 def first_not_measure(numbers, least):
@@ -212,6 +233,10 @@ def is_mark(k, m):
     return 1 <= k <= MOST_PLANKS and 0 <= m <= k
 
 
+def is_plank(k, p):
+    return 1 <= k <= MOST_PLANKS and 0 <= p < k
+
+
 def girth(hull, i):
     if not hull.has_table():
         return [NO_TABLE]
@@ -236,8 +261,47 @@ def run(hull, k, m):
         return [NO_TABLE]
     if not is_mark(k, m):
         return [NO_SUCH_PLANKS]
-    points = [mark_point(hull, i, k, m) for i in range(len(hull.places))]
+    points = seam_points(hull, k, m)
     return [0, sum([length_between(points[i], points[i + 1]) for i in range(len(points) - 1)])]
+
+
+def width(hull, i, k, p):
+    if not hull.has_table():
+        return [NO_TABLE]
+    if not is_plank(k, p):
+        return [NO_SUCH_PLANKS]
+    if not hull.has_station(i):
+        return [NO_SUCH_STATION]
+    return [0, length_between(mark_point(hull, i, k, p), mark_point(hull, i, k, p + 1))]
+
+
+def piece(hull, k, p):
+    if not hull.has_table():
+        return [NO_TABLE]
+    if not is_plank(k, p):
+        return [NO_SUCH_PLANKS]
+    lower = seam_points(hull, k, p)
+    upper = seam_points(hull, k, p + 1)
+    answer = [0]
+    for i in range(len(lower) - 1):
+        answer.append(length_between(lower[i], lower[i + 1]))
+        answer.append(length_between(upper[i], upper[i + 1]))
+        answer.append(length_between(lower[i], upper[i + 1]))
+    return answer + [length_between(lower[i], upper[i]) for i in range(len(lower))]
+
+
+def flat(hull, k, p):
+    if not hull.has_table():
+        return [NO_TABLE]
+    if not is_plank(k, p):
+        return [NO_SUCH_PLANKS]
+    lower = seam_points(hull, k, p)
+    upper = seam_points(hull, k, p + 1)
+    bays_flat = 0
+    for i in range(len(lower) - 1):
+        if lies_flat(lower[i], upper[i], lower[i + 1], upper[i + 1]):
+            bays_flat = bays_flat + 1
+    return [0, bays_flat]
 
 
 def answer_next(hull, reader):
@@ -259,6 +323,19 @@ def answer_next(hull, reader):
         k = reader.number()
         m = reader.number()
         return run(hull, k, m)
+    if call == WIDTH:
+        i = reader.number()
+        k = reader.number()
+        p = reader.number()
+        return width(hull, i, k, p)
+    if call == PIECE:
+        k = reader.number()
+        p = reader.number()
+        return piece(hull, k, p)
+    if call == FLAT:
+        k = reader.number()
+        p = reader.number()
+        return flat(hull, k, p)
     raise UnknownCall(f"no call {call}")
 
 

@@ -28,6 +28,18 @@ def run(k, m):
     return [4, k, m]
 
 
+def width(i, k, p):
+    return [5, i, k, p]
+
+
+def piece(k, p):
+    return [6, k, p]
+
+
+def flat(k, p):
+    return [7, k, p]
+
+
 def ask(*calls):
     """Asks the calls on one object and gives back a list of answers, one a call."""
     numbers = [number for call in calls for number in call]
@@ -69,6 +81,16 @@ def nearest(square):
     return below if square < middle else below + 1
 
 
+def length(a, b):
+    return nearest(sum((there - here) ** 2 for here, there in zip(a, b)))
+
+
+def volume(a, b, c, d):
+    """Of the box that the ways from a to b, c and d span: 0 just if the four points lie in one plane."""
+    (p, q, r), (s, t, u), (v, w, x) = [[there - here for here, there in zip(a, end)] for end in (b, c, d)]
+    return p * (t * x - u * w) - q * (s * x - u * v) + r * (s * w - t * v)
+
+
 class Told:
     """The document's words, done with fractions and with no eye to speed."""
 
@@ -85,7 +107,8 @@ class Told:
         found = self.corners(i)
         return [nearest(Fraction((b[0] - a[0]) ** 2 + (b[1] - a[1]) ** 2)) for a, b in zip(found, found[1:])]
 
-    def point(self, i, k, m):
+    def way(self, i, k, m):
+        """How far out and up mark m of k lies at station i."""
         target = Fraction(m, k) * sum(self.chords(i))
         so_far = 0
         found = self.corners(i)
@@ -96,17 +119,37 @@ class Told:
             so_far += chord
         raise AssertionError("a mark lies beyond the girth")
 
+    def point(self, i, k, m):
+        return [Fraction(self.places[i])] + self.way(i, k, m)
+
+    def bays(self):
+        return range(len(self.places) - 1)
+
     def girth(self, i):
         return [0, sum(self.chords(i))]
 
     def mark(self, i, k, m):
-        y, z = self.point(i, k, m)
+        y, z = self.way(i, k, m)
         return [0, y.numerator, y.denominator, z.numerator, z.denominator]
 
     def run(self, k, m):
-        whole = 0
-        for i in range(len(self.places) - 1):
-            here = [self.places[i]] + self.point(i, k, m)
-            there = [self.places[i + 1]] + self.point(i + 1, k, m)
-            whole += nearest(sum((Fraction(b) - a) ** 2 for a, b in zip(here, there)))
-        return [0, whole]
+        return [0, sum(length(self.point(i, k, m), self.point(i + 1, k, m)) for i in self.bays())]
+
+    def width(self, i, k, p):
+        return [0, length(self.point(i, k, p), self.point(i, k, p + 1))]
+
+    def piece(self, k, p):
+        answer = [0]
+        for i in self.bays():
+            lower, upper = self.point(i, k, p), self.point(i, k, p + 1)
+            next_lower, next_upper = self.point(i + 1, k, p), self.point(i + 1, k, p + 1)
+            answer.extend([length(lower, next_lower), length(upper, next_upper), length(lower, next_upper)])
+        for i in range(len(self.places)):
+            answer.extend(self.width(i, k, p)[1:])
+        return answer
+
+    def flat(self, k, p):
+        return [0, sum(1 for i in self.bays() if volume(*self.four_marks(i, k, p)) == 0)]
+
+    def four_marks(self, i, k, p):
+        return [self.point(station, k, m) for station in (i, i + 1) for m in (p, p + 1)]

@@ -2,11 +2,12 @@
 
 import unittest
 
-from helper import INT_LEAST, INT_MOST, LARGEST, TAKEN, ask, girth, last, make, mark, plain_table, run
+from helper import (INT_LEAST, INT_MOST, LARGEST, TAKEN, ask, flat, girth, last, make, mark, piece, plain_table, run,
+                    width)
 
 # Station 0 has the chord 5, station 1 the chord 4.
 SMALL = make([0, 10], [0, 4], [0, 0, 3, 0])
-ASKED = [girth(0), girth(1), girth(2), mark(0, 4, 1), run(1, 1)]
+ASKED = [girth(0), girth(1), girth(2), mark(0, 4, 1), run(1, 1), width(0, 1, 0), piece(1, 0), flat(1, 0)]
 NO_TABLE = [[-3]] * len(ASKED)
 
 
@@ -164,7 +165,7 @@ class AsItWas(unittest.TestCase):
 
     def test_behind_a_fault_with_a_table(self):
         before = ask(SMALL, *ASKED)[1:]
-        self.assertEqual(before, [[0, 5], [0, 4], [-4], [0, 3, 4, 1, 1], [0, 10]])
+        self.assertEqual(before, [[0, 5], [0, 4], [-4], [0, 3, 4, 1, 1], [0, 10], [0, 5], [0, 10, 10, 11, 5, 4], [0, 0]])
         for fault in self.faults:
             with self.subTest(fault=fault):
                 self.assertEqual(ask(SMALL, fault, *ASKED)[2:], before)

@@ -3,7 +3,7 @@
 import random
 import unittest
 
-from helper import LARGEST, TAKEN, Told, ask, girth, make, mark, run
+from helper import LARGEST, TAKEN, Told, ask, flat, girth, make, mark, piece, run, width
 
 
 def rising(source, count, least, most):
@@ -32,12 +32,16 @@ class AsTold(unittest.TestCase):
                 m = source.randint(0, k)
                 calls.extend([girth(i), mark(i, k, m), run(k, m)])
                 expected.extend([told.girth(i), told.mark(i, k, m), told.run(k, m)])
+                p = source.randrange(k)
+                calls.extend([width(i, k, p), piece(k, p), flat(k, p)])
+                expected.extend([told.width(i, k, p), told.piece(k, p), told.flat(k, p)])
             with self.subTest(size=size, number=number, table=table):
                 self.assertEqual(ask(make(*table), *calls), [TAKEN] + expected)
 
     def test_small_tables(self):
-        self.check(3, 150, 1)
-        self.check(9, 150, 2)
+        self.check(1, 60, 5)
+        self.check(3, 100, 1)
+        self.check(9, 100, 2)
 
     def test_middling_tables(self):
         self.check(500, 60, 3)
