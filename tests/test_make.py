@@ -165,7 +165,8 @@ class AsItWas(unittest.TestCase):
 
     def test_behind_a_fault_with_a_table(self):
         before = ask(SMALL, *ASKED)[1:]
-        self.assertEqual(before, [[0, 5], [0, 4], [-4], [0, 3, 4, 1, 1], [0, 10], [0, 5], [0, 10, 10, 11, 5, 4], [0, 0]])
+        self.assertEqual(before, [[0, 5], [0, 4], [-4], [0, 3, 4, 1, 1], [0, 10], [0, 5], [0, 10, 10, 11, 5, 4],
+                                  [0, 0]])
         for fault in self.faults:
             with self.subTest(fault=fault):
                 self.assertEqual(ask(SMALL, fault, *ASKED)[2:], before)

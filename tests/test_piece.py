@@ -43,7 +43,8 @@ class Piece(unittest.TestCase):
     def test_edges_that_rise(self):
         # At station 0 the chords are 10 and 26, at station 1 26 and 10: mark 1 of 2 is at (96 / 13, 170 / 13), then
         # at (96 / 13, 90 / 13). The upper edge of plank 0 is the root of 12^2 + (80 / 13)^2, 13.48..; its lower edge
-        # 12 24 0, 26.83..; the diagonal 12 96/13 90/13, 15.69..; the widths 96/13 170/13, 15.01.., and 216/13 90/13, 18.
+        # is 12 24 0, 26.83..; its diagonal 12 96/13 90/13, 15.69..; its widths are 96/13 170/13, 15.01.., and
+        # 216/13 90/13, 18.
         table = make([0, 12], [0, 10, 20], [0, 24, 0, 0, 24, 0])
         self.assertEqual(last(table, piece(2, 0)), [0, 27, 13, 16, 15, 18])
 
